@@ -1,0 +1,1 @@
+"""Dotpress: sums and products of words made into gates."""
