@@ -30,7 +30,7 @@ def beats(rows, some):
     return answers
 
 
-# The powers are made once for all rows and beats: with many in rows, dividing anew for each would be slow.
+# Made once for all rows and beats: doubling up to K anew at every in row would be slow.
 def powers_for(rows):
     most = max([row[2] for row in rows if row[0] == "in"], default=-1)
     return powers_of_two(most + 1)
