@@ -59,3 +59,10 @@ def bit_of_two(kind, first, second):
     if kind == "or":
         return first | second
     return first ^ second
+
+
+# A latch is no gate: what it tells goes by the beat before, not by its wire of now.
+def gate_wires(row):
+    if row[0] in ("fix", "in", "latch"):
+        return []
+    return list(row[1:])

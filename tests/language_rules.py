@@ -38,13 +38,17 @@ EXPRESSIONS = (
     ast.Name,
 )
 
+WALKED_ONCE = {"zip", "enumerate", "reversed", "range", ".items", ".keys", ".values"}
+
+WALKERS = {"list", "tuple", "dict", "sorted", "sum", "any", "all", "enumerate", "zip"}
+
 PLAIN_NAME = re.compile(r"[A-Za-z][A-Za-z0-9_]*\Z")
 
 
 # The methods are those of all the package's classes, as a module may call the methods of another one's.
 def faults(text, methods):
     tree = ast.parse(text)
-    found = text_faults(text) + top_faults(tree)
+    found = text_faults(text) + top_faults(tree) + walked_faults(tree)
     own = bound_names(tree) | {"." + name for name in methods}
     for node in ast.walk(tree):
         found.extend(node_faults(node, own))
@@ -106,6 +110,28 @@ def bound_names(tree):
         elif isinstance(node, ast.ExceptHandler) and node.name:
             own.add(node.name)
     return own
+
+
+# What is walked once alone is to stand where it is walked on the spot, not kept or handed on.
+def walked_faults(tree):
+    right = [part for node in ast.walk(tree) for part in walked_parts(node)]
+    made = [node for node in ast.walk(tree) if isinstance(node, ast.Call) and called_name(node) in WALKED_ONCE]
+    return ["L23"] if any(node not in right for node in made) else []
+
+
+def called_name(node):
+    return getattr(node.func, "id", None) or "." + getattr(node.func, "attr", "")
+
+
+def walked_parts(node):
+    if isinstance(node, (ast.For, ast.comprehension)):
+        return [node.iter]
+    if isinstance(node, ast.Call):
+        name = called_name(node)
+        alone = len(node.args) == 1 and not node.keywords
+        if name in WALKERS or (name in ("min", "max", ".join") and alone):
+            return node.args[:1]
+    return []
 
 
 def node_faults(node, own):
