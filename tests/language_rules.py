@@ -60,6 +60,49 @@ def methods_of(text):
     return {part.name for node in classes for part in node.body if isinstance(part, ast.FunctionDef)}
 
 
+# The rules that are seen only by all modules together; texts are the modules' texts by their names.
+def package_faults(texts):
+    found = []
+    methods = set().union(*[methods_of(text) for text in texts.values()])
+    values = set().union(*[values_of(text) for text in texts.values()])
+    if methods & values:
+        found.append("L18")
+    drawn = {name: drawn_by(text) for name, text in texts.items()}
+    tops = {name: defined_at_top(text) for name, text in texts.items()}
+    for name in texts:
+        if any(name_drawn not in tops.get(other, ()) for other, name_drawn in drawn[name]):
+            found.append("L16")
+        if name in reached(name, drawn):
+            found.append("L16")
+    return sorted(set(found))
+
+
+def values_of(text):
+    nodes = ast.walk(ast.parse(text))
+    return {node.attr for node in nodes if isinstance(node, ast.Attribute) and isinstance(node.ctx, ast.Store)}
+
+
+def drawn_by(text):
+    nodes = [node for node in ast.parse(text).body if isinstance(node, ast.ImportFrom)]
+    return [(node.module.removeprefix(PACKAGE + "."), alias.name) for node in nodes for alias in node.names]
+
+
+def defined_at_top(text):
+    nodes = [node for node in ast.parse(text).body if not isinstance(node, ast.ImportFrom)]
+    return {name for node in nodes for name in names_bound_by(node)}
+
+
+def reached(name, drawn):
+    found = set()
+    waiting = [name]
+    while waiting:
+        for other, drawn_name in drawn.get(waiting.pop(), []):
+            if other not in found:
+                found.add(other)
+                waiting.append(other)
+    return found
+
+
 def text_faults(text):
     rows = text.split("\n")
     found = []

@@ -5,6 +5,7 @@ import unittest
 from dotpress import fewer as fewer_module
 from dotpress.fewer import fewer
 from dotpress.sheet import told
+from samples import mixed_numbers, own_wires, plain_depths
 
 GATES_OF_TWO = ("and", "or", "xor")
 
@@ -14,26 +15,6 @@ EVERY_WORDS = [{"a": first, "b": second} for first in range(4) for second in ran
 INS = [("in", "a", 0), ("in", "a", 1), ("in", "b", 0), ("in", "b", 1)]
 
 MOST_ROWS = 60000
-
-
-def own_wires(row):
-    return row[1:] if row[0] not in ("fix", "in") else ()
-
-
-def plain_depths(rows):
-    deep = []
-    for row in rows:
-        own = own_wires(row)
-        deep.append(1 + max(deep[wire] for wire in own) if own else 0)
-    return deep
-
-
-# Numbers that look drawn by chance, but are the same at every run and under every Python.
-def mixed_numbers(seed):
-    state = seed
-    while True:
-        state = (state * 6364136223846793005 + 1442695040888963407) % 2 ** 64
-        yield state // 2 ** 33
 
 
 def mixed_rows(numbers, many):

@@ -5,27 +5,9 @@ from dotpress import heap as heap_module
 from dotpress.errors import PressError, TooFew
 from dotpress.heap import Heap, press_by_order, press_by_rounds
 from dotpress.sheet import Sheet, told
+from samples import columns_of, heap_of, sheet_of_ins
 
 SIXTY_FIGURES = 10 ** 59 + 7
-
-
-def sheet_of_ins(many):
-    sheet = Sheet()
-    for k in range(many):
-        sheet.add(("in", "a", k))
-    return sheet
-
-
-def heap_of(columns):
-    heap = Heap(len(columns))
-    for k, dots in enumerate(columns):
-        for wire in dots:
-            heap.put(k, wire)
-    return heap
-
-
-def columns_of(heap):
-    return [heap.column(k) for k in range(len(heap.heights()))]
 
 
 # What each wire tells for every number of so many bits, so that wires are known by what they tell.

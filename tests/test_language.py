@@ -2,7 +2,7 @@ import pathlib
 import re
 import unittest
 
-from language_rules import faults, methods_of
+from language_rules import faults, methods_of, package_faults
 
 PACKAGE = pathlib.Path(__file__).resolve().parent.parent / "dotpress"
 
@@ -39,15 +39,41 @@ FAULTY = [
     ("L27", "def f(a):\n    return a + '%'\n"),
 ]
 
+FAULTY_TOGETHER = [
+    ("L16", {"one": "from dotpress.two import f\n", "two": "def g():\n    return 1\n"}),
+    ("L16", {"one": "from dotpress.none import f\n"}),
+    (
+        "L16",
+        {
+            "one": "from dotpress.two import g\n\n\ndef f():\n    return g()\n",
+            "two": "from dotpress.three import h\n\n\ndef g():\n    return h()\n",
+            "three": "from dotpress.one import f\n\n\ndef h():\n    return f()\n",
+        },
+    ),
+    (
+        "L18",
+        {
+            "one": "class One:\n    def told(self):\n        return 1\n",
+            "two": "class Two:\n    def __init__(self):\n        self.told = 1\n",
+        },
+    ),
+]
+
 
 class LanguageTest(unittest.TestCase):
+    def texts_of_the_package(self):
+        return {path.stem: path.read_text("utf-8") for path in PACKAGE.glob("*.py")}
+
     def test_the_package_breaks_no_rule(self):
-        texts = {path.name: path.read_text("utf-8") for path in PACKAGE.glob("*.py")}
-        self.assertIn("__init__.py", texts)
+        texts = self.texts_of_the_package()
+        self.assertIn("__init__", texts)
         methods = set().union(*[methods_of(text) for text in texts.values()])
         for name, text in texts.items():
             with self.subTest(name=name):
                 self.assertEqual(faults(text, methods), [])
+
+    def test_the_modules_together_break_no_rule(self):
+        self.assertEqual(package_faults(self.texts_of_the_package()), [])
 
     def test_nothing_but_plain_files_lies_in_the_package(self):
         for path in PACKAGE.iterdir():
@@ -61,8 +87,13 @@ class LanguageTest(unittest.TestCase):
             with self.subTest(rule=rule, text=text):
                 self.assertIn(rule, faults(text, set()))
 
+    def test_each_rule_of_all_modules_is_seen(self):
+        for rule, texts in FAULTY_TOGETHER:
+            with self.subTest(rule=rule, texts=texts):
+                self.assertEqual(package_faults(texts), [rule])
+
     def test_plain_code_breaks_no_rule(self):
-        text = '"""Why."""\n\nMOST = 2 ** 24\n\n\ndef f(a):\n    b = [c for c in a if c is not None]\n    return sorted(b)\n'
+        text = '"""Why."""\n\nMOST = 24\n\n\ndef f(a):\n    b = [c for c in a if c is not None]\n    return sorted(b)\n'
         self.assertEqual(faults(text, set()), [])
 
 
