@@ -1,5 +1,6 @@
 """Formulas: their parts, their worth, and the span in which it lies."""
 
+from dotpress.errors import NoName
 from dotpress.words import span_of_width
 
 
@@ -44,6 +45,16 @@ def span_of_part(part, own, widths):
 def span_of_product(first, second):
     products = [end * second[0] for end in first] + [end * second[1] for end in first]
     return (min(products), max(products))
+
+
+# The widths of the names that the formula has, and of no others.
+def own_widths(formula, widths):
+    own = {}
+    for name in [part[1] for part in parts_first(formula) if part[0] == "name"]:
+        if name not in widths:
+            raise NoName(f"the name {name} has no width")
+        own[name] = widths[name]
+    return own
 
 
 # What is told of a formula by what is told of its parts: answer_of is called with each part and the list of the

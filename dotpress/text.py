@@ -101,18 +101,22 @@ def end_piece(sums, word):
 
 
 def leaf_of(word):
-    if is_letter(word[0]) and len(word) <= MOST_LETTERS:
+    if is_name(word):
         return ("name", word)
-    if is_figure(word[0]) and is_number(word):
+    # The length goes ahead of the worth, as figures without end are not to be made into a number.
+    if is_written_number(word, len(str(GREATEST_NUMBER))) and int(word) <= GREATEST_NUMBER:
         return ("number", int(word))
     raise NoFormula(f"{word!r} stands where a piece is awaited")
 
 
-def is_number(figures):
-    # The length goes first, as figures without end are not to be made into a number.
-    if len(figures) > len(str(GREATEST_NUMBER)) or int(figures) > GREATEST_NUMBER:
+def is_name(word):
+    return 0 < len(word) <= MOST_LETTERS and all([is_letter(sign) for sign in word])
+
+
+def is_written_number(word, most_figures):
+    if not 0 < len(word) <= most_figures or not all([is_figure(sign) for sign in word]):
         return False
-    return figures == "0" or figures[0] != "0"
+    return word == "0" or word[0] != "0"
 
 
 # Letters that follow one another are one word, and so are figures; each other sign is a word by itself.

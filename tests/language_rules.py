@@ -48,7 +48,7 @@ PLAIN_NAME = re.compile(r"[A-Za-z][A-Za-z0-9_]*\Z")
 # The methods are those of all the package's classes, as a module may call the methods of another one's.
 def faults(text, methods):
     tree = ast.parse(text)
-    found = text_faults(text) + top_faults(tree) + walked_faults(tree)
+    found = text_faults(text) + top_faults(tree) + walked_faults(tree) + hiding_faults(tree)
     own = bound_names(tree) | {"." + name for name in methods}
     for node in ast.walk(tree):
         found.extend(node_faults(node, own))
@@ -126,6 +126,17 @@ def top_faults(tree):
     if len(bound) != len(set(bound)):
         found.append("L15")
     return found
+
+
+# No parameter and no local is called like a class or an import of its file.
+def hiding_faults(tree):
+    tops = [node for node in tree.body if isinstance(node, (ast.ClassDef, ast.ImportFrom))]
+    hidden = {name for node in tops for name in names_bound_by(node)}
+    defs = [node for node in tree.body if isinstance(node, (ast.FunctionDef, ast.ClassDef))]
+    within = [part for node in defs for part in ast.walk(node)]
+    given = {part.arg for part in within if isinstance(part, ast.arg)}
+    given.update([part.id for part in within if isinstance(part, ast.Name) and isinstance(part.ctx, ast.Store)])
+    return ["L15"] if hidden & given else []
 
 
 def is_docstring(node):
@@ -288,6 +299,11 @@ def value_faults(node, own):
     return ["L27"] if isinstance(node.value, str) and "%" in node.value else []
 
 
+def braces_faults(node, own):
+    plain = isinstance(node.value, ast.Name) and node.format_spec is None and node.conversion in (-1, ord("r"))
+    return [] if plain else ["L7"]
+
+
 def comprehension_faults(node, own):
     return [] if len(node.generators) == 1 and len(node.generators[0].ifs) < 2 else ["L7"]
 
@@ -309,4 +325,5 @@ CHECKS = (
     (ast.Compare, compare_faults),
     (ast.Constant, value_faults),
     (ast.ListComp, comprehension_faults),
+    (ast.FormattedValue, braces_faults),
 )

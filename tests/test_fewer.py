@@ -5,31 +5,12 @@ import unittest
 from dotpress import fewer as fewer_module
 from dotpress.fewer import fewer
 from dotpress.sheet import told
-from samples import mixed_numbers, own_wires, plain_depths
-
-GATES_OF_TWO = ("and", "or", "xor")
+from samples import GATES_OF_TWO, INS, mixed_numbers, mixed_rows, own_wires, plain_depths
 
 # Every number of two bits for two names.
 EVERY_WORDS = [{"a": first, "b": second} for first in range(4) for second in range(4)]
 
-INS = [("in", "a", 0), ("in", "a", 1), ("in", "b", 0), ("in", "b", 1)]
-
 MOST_ROWS = 60000
-
-
-def mixed_rows(numbers, many):
-    rows = []
-    for wire in range(many):
-        choice = next(numbers) % 12
-        if wire == 0 or choice < 2:
-            rows.append(INS[next(numbers) % 4])
-        elif choice == 2:
-            rows.append(("fix", next(numbers) % 2))
-        elif choice < 6:
-            rows.append(("not", next(numbers) % wire))
-        else:
-            rows.append((GATES_OF_TWO[choice % 3], next(numbers) % wire, next(numbers) % wire))
-    return rows
 
 
 class FewerCase(unittest.TestCase):

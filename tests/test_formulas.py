@@ -4,7 +4,7 @@ import unittest
 
 from dotpress import formulas as formulas_module
 from dotpress.formulas import span_of, worth
-from samples import mixed_formula, mixed_numbers, python_text
+from samples import mixed_formula, mixed_numbers, names_in, numbers_of, plain_worth
 
 A = ("name", "a")
 B = ("name", "b")
@@ -23,18 +23,6 @@ def parts_in(formula):
     if formula[0] in ("name", "number"):
         return 1
     return 1 + sum(parts_in(part) for part in formula[1:])
-
-
-def names_in(formula):
-    if formula[0] == "name":
-        return {formula[1]}
-    if formula[0] == "number":
-        return set()
-    return set().union(*[names_in(part) for part in formula[1:]])
-
-
-def plain_worth(formula, words):
-    return eval(python_text(formula), {}, dict(words))
 
 
 # Each part the left (or right) one of the next, 29 parts and one around them.
@@ -183,12 +171,6 @@ class SpanOfTest(unittest.TestCase):
         self.assertEqual(widths, before)
         self.assertEqual(list(widths), list(before))
 
-    # Each number that a name of this width stands for.
-    def numbers_of(self, width):
-        if width > 0:
-            return range(2 ** width)
-        return range(-(2 ** (-width - 1)), 2 ** (-width - 1))
-
     def test_each_kind(self):
         widths = {"a": 3, "b": -4, "c": 1, "d": -1}
         d = ("name", "d")
@@ -281,7 +263,7 @@ class SpanOfTest(unittest.TestCase):
             if turn % 2 == 0:
                 formula = (kind[0], A, (kind[1], (kind[2], B, C), d))
             widths = {name: (1 + next(numbers) % 3) * (1 if next(numbers) % 2 else -1) for name in "abcd"}
-            every = itertools.product(*[self.numbers_of(widths[name]) for name in "abcd"])
+            every = itertools.product(*[numbers_of(widths[name]) for name in "abcd"])
             worths = [plain_worth(formula, dict(zip("abcd", some))) for some in every]
             with self.subTest(formula=formula, widths=widths):
                 self.check_span(formula, widths, (min(worths), max(worths)))
@@ -297,7 +279,7 @@ class SpanOfTest(unittest.TestCase):
             for pick in range(8):
                 words = {}
                 for name in names:
-                    every = self.numbers_of(widths[name])
+                    every = numbers_of(widths[name])
                     words[name] = every[(0, -1, next(numbers) % len(every))[next(numbers) % 3]]
                 with self.subTest(formula=formula, widths=widths, words=words):
                     answer = worth(formula, words)

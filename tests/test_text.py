@@ -1,12 +1,11 @@
 import inspect
 import itertools
-import re
 import unittest
 
 from dotpress import text as text_module
 from dotpress.errors import NoFormula, PressError
 from dotpress.text import read, shown
-from samples import mixed_formula, mixed_numbers, python_text
+from samples import mixed_formula, mixed_numbers, plain_read, python_text
 
 A = ("name", "a")
 B = ("name", "b")
@@ -32,28 +31,6 @@ PLACES = [
     (lambda part: ("times", C, part), ["c*a", "c*7", "c*(a+b)", "c*(a-b)", "c*(a*b)", "c*(-a)"]),
     (lambda part: ("turned", part), ["-a", "-7", "-(a+b)", "-(a-b)", "-(a*b)", "-(-a)"]),
 ]
-
-
-# The same as read, done another way: parted at the last sign that joins two parts, outermost. None for no formula.
-def plain_read(text):
-    for kinds in ({"+": "plus", "-": "less"}, {"*": "times"}):
-        deep = 0
-        for place in range(len(text) - 1, 0, -1):
-            sign = text[place]
-            deep = deep + (sign == ")") - (sign == "(")
-            if deep == 0 and sign in kinds and text[place - 1] not in "+-*(":
-                parts = (plain_read(text[:place]), plain_read(text[place + 1:]))
-                return None if None in parts else (kinds[sign],) + parts
-    if re.fullmatch("[a-z]{1,6}", text):
-        return ("name", text)
-    if re.fullmatch("0|[1-9][0-9]*", text):
-        return ("number", int(text)) if int(text) <= GREATEST else None
-    if text[:1] == "-":
-        inner = plain_read(text[1:])
-        return None if inner is None else ("turned", inner)
-    if text[:1] == "(" and text[-1:] == ")":
-        return plain_read(text[1:-1])
-    return None
 
 
 class InterfaceTest(unittest.TestCase):
